@@ -1,0 +1,1 @@
+"""Decisions: two tables of rules over points, and what they decide."""
