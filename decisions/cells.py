@@ -1,6 +1,7 @@
 """All points, parted into cells within each of which the same rules hold.
 
-There are over a million points but at most 13 * 13 * 13 cells for 6 rules, so one point of each cell is looked at.
+There are over a million points, but at most 13 * 13 * 13 cells for one table's 6 rules and 25 * 25 * 25 for both
+tables' 12, so one point of each cell is looked at.
 A cell is a list of ranges, one for each value.
 """
 
@@ -41,3 +42,12 @@ def size(cell):
     for span in cell:
         points = points * (span[1] - span[0] + 1)
     return points
+
+
+def nearest_point(cell, point):
+    """The point of a cell that is nearest to another; there is just one, as each value has just one."""
+    return [min(max(value, span[0]), span[1]) for span, value in zip(cell, point)]
+
+
+def distance(one, other):
+    return sum([abs(value - against) for value, against in zip(one, other)])

@@ -1,7 +1,8 @@
 """A house with two tables, and the calls on it; each call answers a list of numbers."""
 
-from decisions.cells import cells, first_point, size
 from decisions.deciding import HIGHEST_WAY, decided
+from decisions.everywhere import counted, how_many_and_first, idle_rules, nearest_deciding, overlapping
+from decisions.everywhere import undecided, unlike
 from decisions.rules import is_point, is_rule, rule_from
 
 MOST_VALUES = 3
@@ -9,6 +10,7 @@ MOST_RULES = 6
 
 WRONG = -1
 ABSENT = -2
+NOWHERE = -6
 FULL = -7
 
 
@@ -26,6 +28,9 @@ class Table:
     def decision(self, held):
         """What is decided where just these rules hold."""
         return decided(self.way, [self.rules[which].says for which in held])
+
+    def decision_at(self, point):
+        return self.decision(self.holding(point))
 
 
 class House:
@@ -80,8 +85,37 @@ class House:
     def gaps(self, table):
         if not self.has_table(table):
             return [ABSENT]
-        asked = self.tables[table]
-        uncovered = [cell for cell in cells(asked.rules, self.width) if len(asked.holding(first_point(cell))) == 0]
-        if len(uncovered) == 0:
-            return [0]
-        return [sum([size(cell) for cell in uncovered])] + first_point(uncovered[0])
+        return how_many_and_first(undecided(self.tables[table], self.width))
+
+    def overlaps(self, table):
+        if not self.has_table(table):
+            return [ABSENT]
+        pairs = overlapping(self.tables[table].rules)
+        answer = [len(pairs)]
+        for pair in pairs:
+            answer.extend(pair)
+        return answer
+
+    def idle(self, table):
+        if not self.has_table(table):
+            return [ABSENT]
+        rules = idle_rules(self.tables[table], self.width)
+        return [len(rules)] + rules
+
+    def same(self):
+        return how_many_and_first(unlike(self.tables[0], self.tables[1], self.width))
+
+    def counts(self, table):
+        if not self.has_table(table):
+            return [ABSENT]
+        return counted(self.tables[table], self.width)
+
+    def nearest(self, table, number, point):
+        if not self.has_table(table):
+            return [ABSENT]
+        if not is_point(point, self.width):
+            return [WRONG]
+        found = nearest_deciding(self.tables[table], number, point)
+        if len(found) == 0:
+            return [NOWHERE]
+        return found

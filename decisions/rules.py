@@ -15,7 +15,15 @@ class Rule:
         self.ranges = ranges
 
     def holds(self, point):
-        return all([span[0] <= value <= span[1] for span, value in zip(self.ranges, point)])
+        for span, value in zip(self.ranges, point):
+            if not span[0] <= value <= span[1]:
+                return False
+        return True
+
+    def meets(self, other):
+        """Whether there is a point at which both hold."""
+        return all([max(span[0], against[0]) <= min(span[1], against[1])
+                    for span, against in zip(self.ranges, other.ranges)])
 
 
 def is_point(row, width):

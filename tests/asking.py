@@ -25,6 +25,26 @@ def gaps(table):
     return [4, table]
 
 
+def overlaps(table):
+    return [5, table]
+
+
+def idle(table):
+    return [6, table]
+
+
+def same():
+    return [7]
+
+
+def counts(table):
+    return [8, table]
+
+
+def nearest(table, answer, *point):
+    return [9, table, answer, len(point), *point]
+
+
 def parted(given):
     parts = []
     at = 0
@@ -38,6 +58,7 @@ def ask(*calls):
     """One answer a call, each without its count."""
     line = [number for call in calls for number in call]
     assert len(calls) <= 60 and len(line) <= 900, "no such line is handed in"
+    assert sum(call[0] >= 4 for call in calls) <= 12, "no such line is handed in"
     parts = parted(answers(line))
     assert len(parts) == len(calls), "not one answer a call"
     return parts
@@ -45,3 +66,17 @@ def ask(*calls):
 
 def last(*calls):
     return ask(*calls)[-1]
+
+
+def scattered_rows(seed, many, values, says=3):
+    """Rows that differ from seed to seed and are the same each time; they say numbers below says."""
+    rows = []
+    for _ in range(many):
+        seed = (seed * 1103515245 + 12345) % 2147483648
+        row = [(seed >> 16) % says]
+        for _ in range(values):
+            seed = (seed * 1103515245 + 12345) % 2147483648
+            ends = sorted(((seed >> 8) % 141 - 20, (seed >> 16) % 141 - 20))
+            row += [min(max(end, 0), 100) for end in ends]
+        rows.append(row)
+    return rows

@@ -1,7 +1,7 @@
 import itertools
 import unittest
 
-from asking import GREATEST, ask, begins, decides, gaps, last, rule
+from asking import GREATEST, ask, begins, decides, gaps, last, rule, scattered_rows
 
 
 def holds(row, point):
@@ -17,19 +17,6 @@ def gaps_point_by_point(rows, values):
             count += 1
             earliest = earliest or list(point)
     return [count] + earliest
-
-
-def scattered_rows(seed, many, values):
-    """Rows that differ from seed to seed and are the same each time."""
-    rows = []
-    for _ in range(many):
-        row = [7]
-        for _ in range(values):
-            seed = (seed * 1103515245 + 12345) % 2147483648
-            ends = sorted(((seed >> 8) % 141 - 20, (seed >> 16) % 141 - 20))
-            row += [min(max(end, 0), 100) for end in ends]
-        rows.append(row)
-    return rows
 
 
 class Gaps(unittest.TestCase):

@@ -100,6 +100,31 @@ class Language(unittest.TestCase):
                     self.assertRegex(bound, r"^[A-Za-z]\w*$", path)
                     self.assertFalse(hasattr(builtins, bound), (path, bound))
 
+    def test_no_parameter_or_local_is_called_like_a_class_or_an_import_of_its_file(self):
+        for path, tree in trees():
+            taken = [node.name for node in tree.body if isinstance(node, ast.ClassDef)]
+            for node in tree.body:
+                if isinstance(node, ast.ImportFrom):
+                    taken += [name.name for name in node.names]
+            for node in ast.walk(tree):
+                if isinstance(node, ast.arg):
+                    self.assertNotIn(node.arg, taken, (path, node.lineno))
+                if isinstance(node, ast.Name) and isinstance(node.ctx, ast.Store):
+                    self.assertNotIn(node.id, taken, (path, node.lineno))
+
+    def test_no_two_files_draw_from_one_another(self):
+        draws = {}
+        for path, tree in trees():
+            found = [node.module for node in ast.walk(tree) if isinstance(node, ast.ImportFrom)]
+            draws["decisions." + path.stem] = [name for name in found if name != "__future__"]
+        reached = {name: set(drawn) for name, drawn in draws.items()}
+        for _ in draws:
+            for name in draws:
+                for further in sorted(reached[name]):
+                    reached[name] |= reached[further]
+        for name in draws:
+            self.assertNotIn(name, reached[name])
+
     def test_methods(self):
         methods = []
         kept = []
